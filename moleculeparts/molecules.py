@@ -10,6 +10,9 @@ MOST_ISOTOPE = 500
 MOST_HAND = 2
 MOST_SIDE = 2
 
+# Stands in an atom's row of four for its hydrogen or for the empty place, whichever it has; never for both.
+NO_ATOM = -1
+
 
 class Atom:
     def __init__(self, element, isotope, charge, hydrogens, hand):
@@ -35,6 +38,19 @@ class Molecule(Graph):
         self.sums = order_sums(len(atoms), bonds)
         # Of each bond the orders that it has in some redrawing, as bits.
         self.orders = redrawn_orders(self.sums, bonds)
+        self.bond_numbers = pair_numbers(bonds)
+
+    def row_around(self, atom):
+        row = self.neighbours[atom]
+        return row if len(row) == 4 else [NO_ATOM] + row
+
+
+def pair_numbers(bonds):
+    numbers = {}
+    for k, bond in enumerate(bonds):
+        numbers[(bond.a, bond.b)] = k
+        numbers[(bond.b, bond.a)] = k
+    return numbers
 
 
 def read_molecule(form, which):

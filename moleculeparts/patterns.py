@@ -136,3 +136,23 @@ def just(number):
 # A molecule's hand or side 0 tells none; in a pattern 0 would let any be.
 def as_told(hand_or_side):
     return NONE_TOLD if hand_or_side == 0 else hand_or_side
+
+
+def cut_pattern(molecule, atoms):
+    numbers = {}
+    for k, atom in enumerate(atoms):
+        numbers[atom] = k
+    bonds = []
+    for k, bond in enumerate(molecule.bonds):
+        if bond.a in numbers and bond.b in numbers:
+            pair = (numbers[bond.a], numbers[bond.b])
+            bonds.append(SaidOfBond(pair, molecule.orders[k], ALL_REDRAWINGS, EITHER, EITHER))
+    return Graph([said_of_element(molecule.atoms[atom].element) for atom in atoms], bonds)
+
+
+def said_of_element(element):
+    charge = (0, MOST_CHARGE)
+    hydrogens = (0, MOST_HYDROGENS)
+    neighbours = (0, MOST_NEIGHBOURS)
+    total = (0, MOST_SUM)
+    return SaidOfAtom([element], ANY_ISOTOPE, charge, hydrogens, neighbours, total, EITHER, EITHER)

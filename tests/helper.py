@@ -342,3 +342,58 @@ def renumbered(mol, row):
             other = same._replace(side=3 - x.side)
             bonds[at[pair]] = same if side_carried(mol, Molecule(atoms, bonds), row, x, same) else other
     return Molecule(atoms, bonds)
+
+
+def some_part(lot, mol, most):
+    """Some atoms of the molecule, each but the first beside one before it where that can be, in any order."""
+    left = list(range(len(mol.atoms)))
+    part = []
+    for k in range(lot.randint(1, most)):
+        beside = [j for j in left if any(j in neighbours(mol, i) for i in part)] or left
+        if beside:
+            part.append(lot.choice(beside))
+            left.remove(part[-1])
+    lot.shuffle(part)
+    return part
+
+
+def some_pattern(lot, mol, most=5):
+    """A pattern that fits some part of the molecule, or nearly."""
+    def around(number, low, high):
+        if lot.random() < 0.6:
+            return (low, high)
+        return (max(low, number - lot.choice((0, 0, 1, -1))), min(high, number + lot.choice((0, 0, 1, 2))))
+
+    def ordered(pair):
+        return tuple(sorted(pair))
+
+    part = some_part(lot, mol, most)
+    numbers = {k: j for j, k in enumerate(part)}
+    orders = [x.order for x in mol.bonds]
+    atoms = []
+    for k in part:
+        x = mol.atoms[k]
+        named = lot.choice(((), (), (x.element,), (6, 7), (7, 8)))
+        atoms.append(said(named, lot.choice((501, 501, x.isotope)), ordered(around(x.charge, -4, 4)),
+                          ordered(around(x.hydrogens, 0, 7)), ordered(around(len(neighbours(mol, k)), 0, 127)),
+                          ordered(around(sum_at(mol.bonds, orders, k), 0, 381)), lot.choice((0, 0, 0, 1, 2))))
+    bonds = []
+    for x in mol.bonds:
+        if x.a in numbers and x.b in numbers and lot.random() < 0.9:
+            a, b = sorted((numbers[x.a], numbers[x.b]))
+            bonds.append(joined(a, b, lot.choice((7, 7, 1 << x.order - 1, lot.randint(1, 7))), lot.randint(0, 1),
+                                lot.choice((0, 0, 0, 1, 2))))
+    return with_said_turns(lot, Pattern(atoms, sorted(bonds)))
+
+
+def with_said_turns(lot, pat):
+    atoms = []
+    for k, x in enumerate(pat.atoms):
+        hands = (0, 1, 2, 1, 2, 3) if len(neighbours(pat, k)) in (3, 4) else (0, 0, 3)
+        atoms.append(x._replace(hand=lot.choice(hands)))
+    bonds = []
+    for x in pat.bonds:
+        besides = [len(neighbours(pat, end)) - 1 for end in (x.a, x.b)]
+        sides = (0, 1, 2, 1, 2, 3) if set(besides) <= {1, 2} else (0, 0, 3)
+        bonds.append(x._replace(side=lot.choice(sides)))
+    return Pattern(atoms, bonds)
