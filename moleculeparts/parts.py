@@ -7,6 +7,7 @@ from moleculeparts.patterns import cut_pattern, own_pattern, pattern_form, read_
 
 ANSWERED = 0
 NOT_RISING = -1
+NO_MORE = -2
 FAULTY_FORM = -5
 
 FIRST_FORM = 0
@@ -41,12 +42,33 @@ def cut(molecule, atoms):
 
 def count(pattern, molecule):
     try:
-        wanted = read_pattern(pattern, FIRST_FORM)
-        given = read_molecule(molecule, SECOND_FORM)
+        maps = maps_between(pattern, molecule)
     except FormFault as fault:
         return fault_answer(fault)
-    maps = maps_of(wanted, given)
     return [ANSWERED, len(maps), len(places_of(maps))]
+
+
+# The words' call map: Python has a name like that of its own.
+def map_of(k, pattern, molecule):
+    try:
+        maps = maps_between(pattern, molecule)
+    except FormFault as fault:
+        return fault_answer(fault)
+    return answer_of_one(k, maps)
+
+
+def place(k, pattern, molecule):
+    try:
+        maps = maps_between(pattern, molecule)
+    except FormFault as fault:
+        return fault_answer(fault)
+    return answer_of_one(k, places_of(maps))
+
+
+def maps_between(pattern, molecule):
+    wanted = read_pattern(pattern, FIRST_FORM)
+    given = read_molecule(molecule, SECOND_FORM)
+    return maps_of(wanted, given)
 
 
 def fault_answer(fault):
@@ -55,6 +77,12 @@ def fault_answer(fault):
 
 def row_answer(row):
     return [ANSWERED, len(row)] + row
+
+
+def answer_of_one(k, rows):
+    if k >= len(rows):
+        return [NO_MORE]
+    return row_answer(rows[k])
 
 
 def are_rising_below(atoms, n):

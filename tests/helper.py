@@ -1,5 +1,6 @@
 """What the tests share: forms put together from words, and the document's sentences tried out one by one."""
 
+import copy
 import itertools
 from collections import namedtuple
 
@@ -68,15 +69,15 @@ def pattern(atoms, bonds=()):
 
 def ask(test, call, *arguments):
     """Call twice: the second answer is the first, and what was handed in is as it was."""
-    before = [list(x) for x in arguments]
+    before = copy.deepcopy(arguments)
     answer = call(*arguments)
-    test.assertEqual([list(x) for x in arguments], before)
+    test.assertEqual(arguments, before)
     test.assertIs(list, type(answer))
     test.assertEqual({int}, {type(x) for x in answer})
     kept = list(answer)
     answer.clear()
     test.assertEqual(call(*arguments), kept)
-    test.assertEqual([list(x) for x in arguments], before)
+    test.assertEqual(arguments, before)
     return kept
 
 
@@ -84,6 +85,47 @@ def row_of(test, answer):
     test.assertEqual(answer[0], 0)
     test.assertEqual(answer[1], len(answer) - 2)
     return answer[2:]
+
+
+def rows_told(test, call, *forms):
+    """The rows that the call tells for k from 0 on, as far as there are more; behind them it answers -2 alone."""
+    rows = []
+    while True:
+        answer = ask(test, call, len(rows), *forms)
+        if answer == [-2]:
+            break
+        rows.append(row_of(test, answer))
+    for k in (len(rows) + 1, len(rows) + 256, 65535, 2 ** 31, 2 ** 32 - 1):
+        test.assertEqual(ask(test, call, k, *forms), [-2])
+    return rows
+
+
+A_PATTERN = pattern([said((6,)), said()], [joined(0, 1)])
+A_MOLECULE = molecule([atom(), atom(7)], [bond(0, 1)])
+
+# Of each fault one form at least, with its rule and place.
+FAULTY_PATTERNS = (
+    ([], 5, 0), ([70, 76], 1, 1), (A_PATTERN[:-1], 5, len(A_PATTERN) - 1), (A_PATTERN + [1], 7, len(A_PATTERN)),
+    (pattern([said((6, 6))]), 2, 8), (pattern([said()] * 3, [joined(0, 2), joined(0, 1)]), 3, 57),
+    (pattern([said(), said(hand=2)]), 4, 35), (pattern([said()] * 2, [joined(0, 1, side=2)]), 6, 41),
+    (A_MOLECULE, 1, 2),
+)
+FAULTY_MOLECULES = (
+    ([], 5, 0), ([0], 1, 0), (A_MOLECULE[:-1], 5, len(A_MOLECULE) - 1), (A_MOLECULE + [1], 7, len(A_MOLECULE)),
+    (molecule([atom(), atom(0)]), 2, 12), (molecule([atom()] * 3, [bond(0, 2), bond(0, 1)]), 3, 28),
+    (molecule([atom(), atom(hand=2)]), 4, 17), (molecule([atom()] * 2, [bond(0, 1, 2, 2)]), 6, 21),
+    (A_PATTERN, 1, 2),
+)
+
+
+def check_refusals(test, call, *ahead):
+    """Of a call that takes these numbers, then a pattern and a molecule: which of the two is told as faulty."""
+    for form, rule, place in FAULTY_PATTERNS:
+        for other in [A_MOLECULE] + [x[0] for x in FAULTY_MOLECULES]:
+            test.assertEqual(ask(test, call, *ahead, form, other), [-5, 0, rule, place])
+    for form, rule, place in FAULTY_MOLECULES:
+        for other in (A_PATTERN, pattern([])):
+            test.assertEqual(ask(test, call, *ahead, other, form), [-5, 1, rule, place])
 
 
 def with_byte(form, place, byte):
@@ -100,12 +142,18 @@ def sum_at(bonds, orders, k):
     return sum(order for x, order in zip(bonds, orders) if k in (x.a, x.b))
 
 
+def all_sums(mol, orders):
+    sums = [0] * len(mol.atoms)
+    for x, order in zip(mol.bonds, orders):
+        sums[x.a] += order
+        sums[x.b] += order
+    return sums
+
+
 def redrawings(mol):
-    n = len(mol.atoms)
-    own_orders = [x.order for x in mol.bonds]
-    sums = [sum_at(mol.bonds, own_orders, k) for k in range(n)]
+    sums = all_sums(mol, [x.order for x in mol.bonds])
     rows = itertools.product((1, 2, 3), repeat=len(mol.bonds))
-    return [row for row in rows if [sum_at(mol.bonds, row, k) for k in range(n)] == sums]
+    return [row for row in rows if all_sums(mol, row) == sums]
 
 
 def orders_drawn(mol):
@@ -312,6 +360,30 @@ def with_turns(lot, mol):
     atoms = [x._replace(hand=lot.randint(0, 2) if hand_may_be(mol, k) else 0) for k, x in enumerate(mol.atoms)]
     bonds = [x._replace(side=lot.randint(0, 2) if side_may_be(mol, k, drawn) else 0) for k, x in enumerate(mol.bonds)]
     return Molecule(atoms, bonds)
+
+
+def turned_molecule(lot):
+    """A molecule in which a hand or a side is likely."""
+    kinds = [lot.choice((6, 7)) for k in range(6)]
+    if lot.random() < 0.5:
+        count_of_leaves = lot.choice((3, 4))
+        pairs = [(0, k + 1, 1) for k in range(count_of_leaves)] + [(1, 5, 1)]
+    else:
+        pairs = [(0, 1, 2), (0, 2, 1), (1, 3, 1)] + lot.choice(([], [(0, 4, 1)], [(1, 5, 1)], [(0, 4, 1), (1, 5, 1)]))
+    row = list(range(6))
+    lot.shuffle(row)
+    bonds = sorted(bond(min(row[a], row[b]), max(row[a], row[b]), order) for a, b, order in pairs)
+    return with_turns(lot, Molecule([atom(k) for k in kinds], bonds))
+
+
+def five_atoms(lot):
+    """A molecule that count's patterns can be as large as."""
+    if lot.random() < 0.4:
+        return some_molecule(lot, lot.randint(1, 5), 6, 1, (6, 7))
+    kinds = [lot.choice((6, 7)) for k in range(5)]
+    shapes = ([(0, 1, 1), (0, 2, 1), (0, 3, 1), (0, 4, 1)], [(0, 1, 1), (0, 2, 1), (0, 3, 1), (3, 4, 1)],
+              [(0, 1, 2), (0, 2, 1), (1, 3, 1), (1, 4, 1)], [(0, 1, 2), (0, 2, 1), (1, 3, 1), (3, 4, 1)])
+    return with_turns(lot, Molecule([atom(k) for k in kinds], [bond(*x) for x in sorted(lot.choice(shapes))]))
 
 
 def redrawn(mol, orders):

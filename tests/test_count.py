@@ -6,9 +6,9 @@ from moleculeparts.maps import maps_of, places_of
 from moleculeparts.molecules import read_molecule
 from moleculeparts.parts import count, own
 from moleculeparts.patterns import read_pattern
-from tests.helper import Molecule, Pattern, Tried, ask, atom, bond, joined, mirrored, molecule, molecule_form
-from tests.helper import pattern, pattern_form, redrawings, redrawn, renumbered, row_of, said, samenesses
-from tests.helper import some_molecule, some_pattern, with_turns
+from tests.helper import Molecule, Pattern, Tried, ask, atom, bond, check_refusals, five_atoms, joined, mirrored
+from tests.helper import molecule, molecule_form, pattern, pattern_form, redrawings, redrawn, renumbered, row_of, said
+from tests.helper import samenesses, some_molecule, some_pattern, turned_molecule, with_turns
 
 SIX_RING = [bond(0, 1, 2), bond(0, 5), bond(1, 2), bond(2, 3, 2), bond(3, 4), bond(4, 5, 2)]
 BENZENE = molecule([atom(hydrogens=1)] * 6, SIX_RING)
@@ -393,20 +393,6 @@ class AgainstTrialTest(CountTest):
                 self.assertEqual(maps_of(pat, read_molecule(other, 1)), carried)
 
 
-def turned_molecule(lot):
-    """A molecule in which a hand or a side is likely."""
-    kinds = [lot.choice((6, 7)) for k in range(6)]
-    if lot.random() < 0.5:
-        count_of_leaves = lot.choice((3, 4))
-        pairs = [(0, k + 1, 1) for k in range(count_of_leaves)] + [(1, 5, 1)]
-    else:
-        pairs = [(0, 1, 2), (0, 2, 1), (1, 3, 1)] + lot.choice(([], [(0, 4, 1)], [(1, 5, 1)], [(0, 4, 1), (1, 5, 1)]))
-    row = list(range(6))
-    lot.shuffle(row)
-    bonds = sorted(bond(min(row[a], row[b]), max(row[a], row[b]), order) for a, b, order in pairs)
-    return with_turns(lot, Molecule([atom(k) for k in kinds], bonds))
-
-
 class SameTest(CountTest):
     """A molecule's own pattern stands in another of as many atoms just if they're the same."""
 
@@ -473,16 +459,6 @@ class SameTest(CountTest):
         self.assertEqual(self.own_in(square, chain), [0, 0, 0])
 
 
-def five_atoms(lot):
-    """A molecule that count's patterns can be as large as."""
-    if lot.random() < 0.4:
-        return some_molecule(lot, lot.randint(1, 5), 6, 1, (6, 7))
-    kinds = [lot.choice((6, 7)) for k in range(5)]
-    shapes = ([(0, 1, 1), (0, 2, 1), (0, 3, 1), (0, 4, 1)], [(0, 1, 1), (0, 2, 1), (0, 3, 1), (3, 4, 1)],
-              [(0, 1, 2), (0, 2, 1), (1, 3, 1), (1, 4, 1)], [(0, 1, 2), (0, 2, 1), (1, 3, 1), (3, 4, 1)])
-    return with_turns(lot, Molecule([atom(k) for k in kinds], [bond(*x) for x in sorted(lot.choice(shapes))]))
-
-
 def changed(lot, mol):
     """The molecule, renumbered, with one thing in it otherwise, or perhaps not."""
     row = list(range(len(mol.atoms)))
@@ -501,38 +477,8 @@ def changed(lot, mol):
 
 
 class RefusalTest(CountTest):
-    PATTERN = pattern([said((6,)), said()], [joined(0, 1)])
-    MOLECULE = molecule([atom(), atom(7)], [bond(0, 1)])
-
-    def faulty_patterns(self):
-        return (
-            ([], 5, 0), ([70, 76], 1, 1), (self.PATTERN[:-1], 5, len(self.PATTERN) - 1),
-            (self.PATTERN + [1], 7, len(self.PATTERN)), (pattern([said((6, 6))]), 2, 8),
-            (pattern([said()] * 3, [joined(0, 2), joined(0, 1)]), 3, 57), (pattern([said(), said(hand=2)]), 4, 35),
-            (pattern([said()] * 2, [joined(0, 1, side=2)]), 6, 41), (self.MOLECULE, 1, 2),
-        )
-
-    def faulty_molecules(self):
-        return (
-            ([], 5, 0), ([0], 1, 0), (self.MOLECULE[:-1], 5, len(self.MOLECULE) - 1),
-            (self.MOLECULE + [1], 7, len(self.MOLECULE)), (molecule([atom(), atom(0)]), 2, 12),
-            (molecule([atom()] * 3, [bond(0, 2), bond(0, 1)]), 3, 28), (molecule([atom(), atom(hand=2)]), 4, 17),
-            (molecule([atom()] * 2, [bond(0, 1, 2, 2)]), 6, 21), (self.PATTERN, 1, 2),
-        )
-
-    def test_faulty_pattern(self):
-        for form, rule, place in self.faulty_patterns():
-            self.assertEqual(ask(self, count, form, self.MOLECULE), [-5, 0, rule, place])
-
-    def test_faulty_molecule(self):
-        for form, rule, place in self.faulty_molecules():
-            self.assertEqual(ask(self, count, self.PATTERN, form), [-5, 1, rule, place])
-            self.assertEqual(ask(self, count, pattern([]), form), [-5, 1, rule, place])
-
-    def test_both_the_patterns_is_told(self):
-        for form, rule, place in self.faulty_patterns():
-            for other, unused_rule, unused_place in self.faulty_molecules():
-                self.assertEqual(ask(self, count, form, other), [-5, 0, rule, place])
+    def test_faulty_forms(self):
+        check_refusals(self, count)
 
 
 if __name__ == "__main__":
