@@ -126,3 +126,12 @@ def places_of(maps):
     for row in maps:
         first_maps.setdefault(tuple(sorted(row)), row)
     return list(first_maps.values())
+
+
+# The atoms that some place has are those that some map has.
+def covered_marks(maps, n):
+    marks = [0] * n
+    for row in maps:
+        for image in row:
+            marks[image] = 1
+    return marks

@@ -44,6 +44,11 @@ class Molecule(Graph):
         row = self.neighbours[atom]
         return row if len(row) == 4 else [NO_ATOM] + row
 
+    # As bits, over all redrawings. A bond has one at least: none tells that the two aren't joined.
+    def orders_between(self, atom, other):
+        k = self.bond_numbers.get((atom, other))
+        return 0 if k is None else self.orders[k]
+
 
 def pair_numbers(bonds):
     numbers = {}

@@ -1,8 +1,9 @@
 """The calls: each takes forms and numbers, and answers a list of numbers."""
 
 from moleculeparts.forms import FormFault
-from moleculeparts.maps import maps_of, places_of
+from moleculeparts.maps import covered_marks, maps_of, places_of
 from moleculeparts.molecules import read_molecule
+from moleculeparts.partners import greatest_part
 from moleculeparts.patterns import cut_pattern, own_pattern, pattern_form, read_pattern
 
 ANSWERED = 0
@@ -63,6 +64,24 @@ def place(k, pattern, molecule):
     except FormFault as fault:
         return fault_answer(fault)
     return answer_of_one(k, places_of(maps))
+
+
+def covered(pattern, molecule):
+    try:
+        wanted = read_pattern(pattern, FIRST_FORM)
+        given = read_molecule(molecule, SECOND_FORM)
+    except FormFault as fault:
+        return fault_answer(fault)
+    return row_answer(covered_marks(maps_of(wanted, given), len(given.atoms)))
+
+
+def common(molecule, another):
+    try:
+        one = read_molecule(molecule, FIRST_FORM)
+        other = read_molecule(another, SECOND_FORM)
+    except FormFault as fault:
+        return fault_answer(fault)
+    return row_answer(greatest_part(one, other))
 
 
 def maps_between(pattern, molecule):
