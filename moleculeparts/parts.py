@@ -5,6 +5,7 @@ from moleculeparts.maps import covered_marks, maps_of, places_of
 from moleculeparts.molecules import read_molecule
 from moleculeparts.partners import greatest_part
 from moleculeparts.patterns import cut_pattern, own_pattern, pattern_form, read_pattern
+from moleculeparts.rings import least_basis_lengths, short_rings
 
 ANSWERED = 0
 NOT_RISING = -1
@@ -82,6 +83,22 @@ def common(molecule, another):
     except FormFault as fault:
         return fault_answer(fault)
     return row_answer(greatest_part(one, other))
+
+
+def sizes(molecule):
+    try:
+        given = read_molecule(molecule, FIRST_FORM)
+    except FormFault as fault:
+        return fault_answer(fault)
+    return row_answer(least_basis_lengths(given))
+
+
+def short(k, molecule):
+    try:
+        given = read_molecule(molecule, FIRST_FORM)
+    except FormFault as fault:
+        return fault_answer(fault)
+    return answer_of_one(k, short_rings(given))
 
 
 def maps_between(pattern, molecule):

@@ -67,6 +67,16 @@ def pattern(atoms, bonds=()):
     return pattern_form(Pattern(list(atoms), list(bonds)))
 
 
+def shape(n, pairs):
+    """Atoms of carbon, and single bonds between these pairs, in whatever order they're told."""
+    return Molecule([atom()] * n, [bond(a, b) for a, b in sorted(tuple(sorted(pair)) for pair in pairs)])
+
+
+def round_pairs(*atoms):
+    """The bonds of a ring through these atoms in turn."""
+    return [(atoms[k - 1], atoms[k]) for k in range(len(atoms))]
+
+
 def ask(test, call, *arguments):
     """Call twice: the second answer is the first, and what was handed in is as it was."""
     before = copy.deepcopy(arguments)
@@ -126,6 +136,12 @@ def check_refusals(test, call, *ahead):
     for form, rule, place in FAULTY_MOLECULES:
         for other in (A_PATTERN, pattern([])):
             test.assertEqual(ask(test, call, *ahead, other, form), [-5, 1, rule, place])
+
+
+def check_one_form_refusals(test, call, *ahead):
+    """Of a call that takes these numbers, then a molecule."""
+    for form, rule, place in FAULTY_MOLECULES:
+        test.assertEqual(ask(test, call, *ahead, form), [-5, 0, rule, place])
 
 
 def with_byte(form, place, byte):
@@ -208,15 +224,63 @@ def on_one_side(graph, x, p, q):
 
 
 def rings(mol):
-    """All rings, as rows of atoms."""
+    """All rings, as rows of atoms, in the order of their lengths, then of their rows."""
     found = []
     ties = {frozenset((x.a, x.b)) for x in mol.bonds}
     for length in range(3, len(mol.atoms) + 1):
-        for row in itertools.permutations(range(len(mol.atoms)), length):
-            if row[0] == min(row) and row[1] < row[-1]:
-                if all(frozenset((row[k - 1], row[k])) in ties for k in range(length)):
+        for atoms in itertools.combinations(range(len(mol.atoms)), length):
+            for others in itertools.permutations(atoms[1:]):
+                row = atoms[:1] + others
+                if row[1] < row[-1] and all(frozenset((row[k - 1], row[k])) in ties for k in range(length)):
                     found.append(row)
-    return found
+    return sorted(found, key=lambda row: (len(row), row))
+
+
+def ring_bonds(row):
+    return frozenset(frozenset((row[k - 1], row[k])) for k in range(len(row)))
+
+
+def ring_row(atoms):
+    """The row of the ring that goes through these atoms in turn, wherever it begins and whichever way it goes."""
+    turned = [atoms[k:] + atoms[:k] for k in range(len(atoms))]
+    return min(turned + [row[:1] + row[:0:-1] for row in turned])
+
+
+def sums_of(rows):
+    """Every sum of some of the rings, each a set of bonds."""
+    sums = {frozenset()}
+    for row in rows:
+        sums = sums | {x ^ ring_bonds(row) for x in sums}
+    return sums
+
+
+def short_by_trial(mol):
+    found = rings(mol)
+    shorter = {length: sums_of([row for row in found if len(row) < length]) for length in range(len(mol.atoms) + 1)}
+    return [list(row) for row in found if ring_bonds(row) not in shorter[len(row)]]
+
+
+def least_bases(mol):
+    """Of all sets of rings of which each ring is a sum those with the fewest atoms, by trying every set."""
+    found = rings(mol)
+    wanted = {ring_bonds(row) for row in found}
+    least = None
+    bases = []
+    for size in range(len(found) + 1):
+        for rows in itertools.combinations(found, size):
+            atoms = sum(len(row) for row in rows)
+            if (least is None or atoms <= least) and wanted <= sums_of(rows):
+                bases = (bases if atoms == least else []) + [rows]
+                least = atoms
+    return bases
+
+
+def pieces(mol):
+    """How many pieces the molecule has, none tied to another by a bond."""
+    names = list(range(len(mol.atoms)))
+    for x in mol.bonds:
+        names = [names[x.a] if name == names[x.b] else name for name in names]
+    return len(set(names))
 
 
 class Tried:
@@ -384,6 +448,16 @@ def five_atoms(lot):
     shapes = ([(0, 1, 1), (0, 2, 1), (0, 3, 1), (0, 4, 1)], [(0, 1, 1), (0, 2, 1), (0, 3, 1), (3, 4, 1)],
               [(0, 1, 2), (0, 2, 1), (1, 3, 1), (1, 4, 1)], [(0, 1, 2), (0, 2, 1), (1, 3, 1), (3, 4, 1)])
     return with_turns(lot, Molecule([atom(k) for k in kinds], [bond(*x) for x in sorted(lot.choice(shapes))]))
+
+
+def some_rings(lot, n, m):
+    """A molecule with just so many bonds, if its atoms have room for them; it has no sides: they'd take long."""
+    pairs = list(itertools.combinations(range(n), 2))
+    chosen = sorted(lot.sample(pairs, min(len(pairs), m)))
+    atoms = [atom(lot.choice((6, 7, 8)), hydrogens=lot.randint(0, 1)) for k in range(n)]
+    mol = Molecule(atoms, [bond(a, b, lot.choice((1, 1, 1, 2, 3))) for a, b in chosen])
+    return Molecule([x._replace(hand=lot.randint(0, 2) if hand_may_be(mol, k) else 0) for k, x in enumerate(atoms)],
+                    mol.bonds)
 
 
 def redrawn(mol, orders):
