@@ -1,7 +1,7 @@
 """Maps of a pattern into a molecule, and the places where it stands."""
 
 from moleculeparts.patterns import ALL_REDRAWINGS, ANY_ISOTOPE, EITHER, NONE_TOLD, turns
-from moleculeparts.rings import atoms_in_rings, bonds_in_rings
+from moleculeparts.rings import NO_RING, least_through_atoms, least_through_bonds
 
 IN_RING = 1
 
@@ -10,8 +10,8 @@ class Search:
     def __init__(self, pattern, molecule):
         self.pattern = pattern
         self.molecule = molecule
-        self.ringed_bonds = bonds_in_rings(molecule)
-        self.ringed_atoms = atoms_in_rings(molecule, self.ringed_bonds)
+        self.bond_rings = least_through_bonds(molecule)
+        self.atom_rings = least_through_atoms(molecule, self.bond_rings)
 
     def atom_fits(self, said, k):
         atom = self.molecule.atoms[k]
@@ -25,12 +25,12 @@ class Search:
             return False
         if not within(self.molecule.sums[k], said.total):
             return False
-        return ring_fits(said.ring, self.ringed_atoms[k]) and is_told_as_said(said.hand, atom.hand)
+        return ring_fits(said.ring, self.atom_rings[k]) and is_told_as_said(said.hand, atom.hand)
 
     def bond_fits(self, said, k):
         if not orders_fit(said, self.molecule.orders[k]):
             return False
-        return ring_fits(said.ring, self.ringed_bonds[k]) and is_told_as_said(said.side, self.molecule.bonds[k].side)
+        return ring_fits(said.ring, self.bond_rings[k]) and is_told_as_said(said.side, self.molecule.bonds[k].side)
 
     def images_of(self, said):
         return [k for k in range(len(self.molecule.atoms)) if self.atom_fits(said, k)]
@@ -84,8 +84,8 @@ def within(number, bounds):
     return bounds[0] <= number <= bounds[1]
 
 
-def ring_fits(said, in_ring):
-    return said == EITHER or in_ring == (said == IN_RING)
+def ring_fits(said, least_ring):
+    return said == EITHER or (least_ring != NO_RING) == (said == IN_RING)
 
 
 # Which of the two hands or sides it is depends on the whole map; whether there is one doesn't.

@@ -5,7 +5,7 @@ from moleculeparts.maps import covered_marks, maps_of, places_of
 from moleculeparts.molecules import read_molecule
 from moleculeparts.partners import greatest_part
 from moleculeparts.patterns import cut_pattern, own_pattern, pattern_form, read_pattern
-from moleculeparts.rings import least_basis_lengths, short_rings
+from moleculeparts.rings import least_basis_lengths, least_through_atoms, least_through_bonds, short_rings
 
 ANSWERED = 0
 NOT_RISING = -1
@@ -99,6 +99,15 @@ def short(k, molecule):
     except FormFault as fault:
         return fault_answer(fault)
     return answer_of_one(k, short_rings(given))
+
+
+def least(molecule):
+    try:
+        given = read_molecule(molecule, FIRST_FORM)
+    except FormFault as fault:
+        return fault_answer(fault)
+    through_bonds = least_through_bonds(given)
+    return row_answer(least_through_atoms(given, through_bonds) + through_bonds)
 
 
 def maps_between(pattern, molecule):

@@ -1,34 +1,36 @@
-"""Rings: which bonds and atoms of a molecule are in one, its short rings, and the lengths of a least basis."""
+"""Rings: the least ones through bonds and atoms, a molecule's short rings, and the lengths of a least basis."""
 
 LEAST_LENGTH = 3
+NO_RING = 0
 
 
-# A ring goes through a bond just if its ends are still tied together without it.
-def bond_in_ring(molecule, bond):
-    reached = {bond.a: True}
+def least_through_bonds(molecule):
+    return [least_through_bond(molecule, bond) for bond in molecule.bonds]
+
+
+# The least ring through a bond goes the shortest other way from its one end to its other. Atoms wait in the order
+# in which they're reached: so each is reached by as few steps as can be.
+def least_through_bond(molecule, bond):
+    steps = {bond.a: 0}
     waiting = [bond.a]
     while waiting:
-        atom = waiting.pop()
+        atom = waiting.pop(0)
         for other in molecule.neighbours[atom]:
             is_bond_itself = atom == bond.a and other == bond.b
-            if other not in reached and not is_bond_itself:
-                reached[other] = True
+            if other not in steps and not is_bond_itself:
+                steps[other] = steps[atom] + 1
                 waiting.append(other)
-    return bond.b in reached
+    return steps[bond.b] + 1 if bond.b in steps else NO_RING
 
 
-def bonds_in_rings(molecule):
-    return [bond_in_ring(molecule, bond) for bond in molecule.bonds]
-
-
-# A ring through an atom goes through two of its bonds.
-def atoms_in_rings(molecule, ringed_bonds):
-    ringed = [False] * len(molecule.atoms)
-    for k, bond in enumerate(molecule.bonds):
-        if ringed_bonds[k]:
-            ringed[bond.a] = True
-            ringed[bond.b] = True
-    return ringed
+# A ring through an atom goes through two of its bonds: the least one through it is the least through one of these.
+def least_through_atoms(molecule, through_bonds):
+    lengths = []
+    for atom in range(len(molecule.atoms)):
+        numbers = [molecule.bond_numbers[(atom, other)] for other in molecule.neighbours[atom]]
+        through_atom = [through_bonds[k] for k in numbers if through_bonds[k] != NO_RING]
+        lengths.append(min(through_atom, default=NO_RING))
+    return lengths
 
 
 # Sets of bonds are whole numbers, a bit for each bond: two sets' sum is what stands in just one of them, so their ^.

@@ -276,11 +276,24 @@ def least_bases(mol):
 
 
 def pieces(mol):
-    """How many pieces the molecule has, none tied to another by a bond."""
+    """The atoms of each piece; none is tied to another piece by a bond."""
     names = list(range(len(mol.atoms)))
     for x in mol.bonds:
         names = [names[x.a] if name == names[x.b] else name for name in names]
-    return len(set(names))
+    return [[k for k, other in enumerate(names) if other == name] for name in sorted(set(names))]
+
+
+def greatest_piece(mol):
+    return max([len(atoms) for atoms in pieces(mol)], default=0)
+
+
+def least_by_trial(mol):
+    """Of each atom, then of each bond, the length of the least of all rings that have it."""
+    found = rings(mol)
+    of_atoms = [min([len(row) for row in found if k in row], default=0) for k in range(len(mol.atoms))]
+    of_bonds = [min([len(row) for row in found if frozenset((x.a, x.b)) in ring_bonds(row)], default=0)
+                for x in mol.bonds]
+    return of_atoms + of_bonds
 
 
 class Tried:

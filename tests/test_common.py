@@ -3,8 +3,8 @@ import random
 import unittest
 
 from moleculeparts.parts import common
-from tests.helper import A_MOLECULE, FAULTY_MOLECULES, Molecule, ask, atom, bond, mirrored, molecule, molecule_form
-from tests.helper import orders_drawn, redrawings, redrawn, renumbered, row_of, some_molecule, turned_molecule
+from tests.helper import A_MOLECULE, FAULTY_MOLECULES, Molecule, ask, atom, bond, greatest_piece, mirrored, molecule
+from tests.helper import molecule_form, orders_drawn, redrawings, redrawn, renumbered, row_of, some_molecule, turned_molecule
 
 SIX_RING = [bond(0, 1, 2), bond(0, 5), bond(1, 2), bond(2, 3, 2), bond(3, 4), bond(4, 5, 2)]
 BENZENE = molecule([atom()] * 6, SIX_RING)
@@ -26,11 +26,6 @@ def piece_of(mol, atoms):
             if x.a in atoms and x.b in atoms and (x.a in reached or x.b in reached):
                 reached.update((x.a, x.b))
     return reached
-
-
-def greatest_piece(mol):
-    rows = [piece_of(mol, list(range(k, len(mol.atoms))) + list(range(k))) for k in range(len(mol.atoms))]
-    return max([len(x) for x in rows], default=0)
 
 
 def bonds_drawn(mol):

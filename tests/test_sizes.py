@@ -88,7 +88,7 @@ class AsManyTest(SizesTest):
         for k in range(200):
             mol = some_rings(lot, lot.randint(0, 9), lot.randint(0, 12))
             lengths = row_of(self, ask(self, sizes, molecule_form(mol)))
-            self.assertEqual(len(lengths), len(mol.bonds) - len(mol.atoms) + pieces(mol))
+            self.assertEqual(len(lengths), len(mol.bonds) - len(mol.atoms) + len(pieces(mol)))
             self.assertEqual(lengths, sorted(lengths))
             numbers[len(lengths)] = numbers.get(len(lengths), 0) + 1
         self.assertGreater(min(numbers[x] for x in range(7)), 3)
